@@ -1,0 +1,1 @@
+"""Texts of rows and maps, set in lines."""

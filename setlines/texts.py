@@ -1,0 +1,363 @@
+"""Texts of rows and maps: read to the last byte, and set in lines of a width.
+
+A text is a list of bytes. Reader turns it into pieces, in the order of the
+text; Setter turns pieces into lines. Both go by loops, however deep it gets.
+"""
+
+LINE_END = 10
+BLANK = 32
+QUOTE = 34
+HASH_SIGN = 35
+COMMA = 44
+COLON = 58
+BACKSLASH = 92
+ROW_END = 93
+MAP_END = 125
+# Each opening bracket with the one that closes it.
+CLOSERS = {91: 93, 123: 125}
+# What may stand behind a backslash: a quote, a backslash, n.
+ESCAPED = (34, 92, 110)
+# More than any byte is: read where the text has ended.
+NO_BYTE = 256
+
+MOST_BYTES = 65536
+MOST_DEEP = 40
+LEAST_WIDTH = 20
+MOST_WIDTH = 200
+
+# The kinds of a piece.
+PLAIN = "plain"
+OPENING = "opening"
+CLOSING = "closing"
+COMMENT = "comment"
+
+# What a row, map or text takes next: READY a value or entry; FILLED a comma;
+# CLOSED neither, as a comment stands behind its last one without a comma.
+READY = "ready"
+FILLED = "filled"
+CLOSED = "closed"
+
+
+class Wrong(Exception):
+    """A text can't be read; place is that of the first byte that's wrong."""
+
+    def __init__(self, place):
+        # A text of more bytes than that is wrong there at the latest.
+        self.place = min(place, MOST_BYTES)
+
+
+class Piece:
+    """A word or string, a bracket, or a comment; own is the bytes it's told by.
+
+    An opening bracket stands for its whole row or map: it bears the key, the
+    comma and the length.
+    """
+
+    def __init__(self, kind, key, own):
+        self.kind = kind
+        self.key = key
+        self.own = own
+        # How many bytes it is told flat by, with its key.
+        self.length = len(key_told(key)) + len(own)
+        # Another value or entry of the same row or map comes after it.
+        self.comma = False
+        # Of a row or map: it's not empty.
+        self.filled = False
+        # Of a row or map: a comment stands anywhere in it.
+        self.noted = False
+        # Of a comment: it stands behind a value or entry.
+        self.behind = False
+
+
+class Level:
+    """What is known of a row, a map or the text while it is read."""
+
+    def __init__(self, piece, closer):
+        self.piece = piece
+        self.closer = closer
+        self.state = READY
+        self.seen = {}
+        self.last = None
+
+    def add(self, member):
+        """Take in a value or entry that has been read to its end."""
+        whole = self.piece
+        last = self.last
+        if last is not None:
+            last.comma = True
+            whole.length += 2
+        whole.length += member.length
+        whole.filled = True
+        whole.noted = whole.noted or member.noted
+        self.last = member
+        self.state = FILLED
+
+
+class Reader:
+    """Reads a text once, from its first byte to its last."""
+
+    def __init__(self, text):
+        self.text = text
+        self.place = 0
+        self.pieces = []
+        self.levels = [Level(Piece(OPENING, [], []), NO_BYTE)]
+
+    def read(self):
+        """Give back the text's pieces, or raise Wrong."""
+        line_ended = self.skip_space()
+        while self.place < len(self.text):
+            self.read_next(line_ended)
+            line_ended = self.skip_space()
+        # The text takes in its value only when that is closed.
+        if self.levels[0].state == READY:
+            raise Wrong(len(self.text))
+        if len(self.text) > MOST_BYTES:
+            raise Wrong(MOST_BYTES)
+        return self.pieces
+
+    def skip_space(self):
+        """Go to the next byte that's no blank; tell if a line ended before it."""
+        line_ended = False
+        while byte_at(self.text, self.place) in (BLANK, LINE_END):
+            if self.text[self.place] == LINE_END:
+                line_ended = True
+            self.place += 1
+        return line_ended
+
+    def read_next(self, line_ended):
+        byte = self.text[self.place]
+        if byte == HASH_SIGN:
+            self.read_comment(line_ended)
+        elif byte == COMMA:
+            self.read_comma()
+        elif byte in (ROW_END, MAP_END):
+            self.read_closing(byte)
+        else:
+            self.read_member()
+
+    def read_comment(self, line_ended):
+        level = self.levels[-1]
+        end = comment_end(self.text, self.place)
+        piece = Piece(COMMENT, [], without_last_blanks(self.text[self.place:end]))
+        # A line has always ended behind a comment, so what is last here is a
+        # value or entry, or its comma.
+        piece.behind = level.last is not None and not line_ended
+        whole = level.piece
+        whole.noted = True
+        if level.state == FILLED:
+            level.state = CLOSED
+        self.pieces.append(piece)
+        self.place = end
+
+    def read_comma(self):
+        level = self.levels[-1]
+        if len(self.levels) == 1 or level.state != FILLED:
+            raise Wrong(self.place)
+        level.state = READY
+        self.place += 1
+
+    def read_closing(self, byte):
+        level = self.levels[-1]
+        if byte != level.closer:
+            raise Wrong(self.place)
+        self.levels.pop()
+        self.levels[-1].add(level.piece)
+        self.pieces.append(Piece(CLOSING, [], [byte]))
+        self.place += 1
+
+    def read_member(self):
+        level = self.levels[-1]
+        if level.state != READY:
+            raise Wrong(self.place)
+        key = []
+        if level.closer == MAP_END:
+            key = self.read_key(level.seen)
+        byte = byte_at(self.text, self.place)
+        if byte in CLOSERS:
+            self.read_opening(key, byte)
+        else:
+            piece = Piece(PLAIN, key, self.read_plain())
+            level.add(piece)
+            self.pieces.append(piece)
+
+    def read_key(self, seen):
+        """Read a key and its colon, up to where the value has to begin."""
+        begin = self.place
+        key = self.read_plain()
+        if tuple(key) in seen:
+            raise Wrong(begin)
+        seen[tuple(key)] = True
+        self.skip_space()
+        if byte_at(self.text, self.place) != COLON:
+            raise Wrong(self.place)
+        self.place += 1
+        self.skip_space()
+        return key
+
+    def read_opening(self, key, byte):
+        if len(self.levels) > MOST_DEEP:
+            raise Wrong(self.place)
+        piece = Piece(OPENING, key, [byte])
+        # The bracket that closes it belongs to its length too.
+        piece.length += 1
+        self.levels.append(Level(piece, CLOSERS[byte]))
+        self.pieces.append(piece)
+        self.place += 1
+
+    def read_plain(self):
+        """Read the word or string that has to be here."""
+        begin = self.place
+        if byte_at(self.text, begin) == QUOTE:
+            self.place = string_end(self.text, begin)
+        else:
+            self.place = word_end(self.text, begin)
+        if self.place == begin:
+            raise Wrong(begin)
+        return self.text[begin:self.place]
+
+
+class Setter:
+    """Sets pieces in lines of a width, one piece after the other."""
+
+    def __init__(self, width):
+        self.width = width
+        self.lines = []
+        # The rows and maps that are not closed yet. The first of them are told
+        # broken, as many as the number says; those within a flat one are flat.
+        self.opened = []
+        self.broken = 0
+
+    def is_flat_here(self):
+        return len(self.opened) > self.broken
+
+    def tell(self, piece):
+        if piece.behind:
+            self.lines[-1].extend([BLANK] + piece.own)
+        elif piece.kind == CLOSING:
+            self.tell_closing(piece)
+        elif piece.kind == OPENING:
+            self.tell_opening(piece)
+        else:
+            self.put(key_told(piece.key) + piece.own)
+            self.put_comma(piece)
+
+    def tell_opening(self, piece):
+        self.put(key_told(piece.key) + piece.own)
+        if not self.is_flat_here() and self.must_break(piece):
+            self.broken += 1
+        self.opened.append(piece)
+
+    def tell_closing(self, piece):
+        whole = self.opened.pop()
+        if len(self.opened) < self.broken:
+            self.broken -= 1
+            self.put(piece.own)
+        else:
+            self.lines[-1].extend(piece.own)
+        self.put_comma(whole)
+
+    def must_break(self, piece):
+        """Tell if a row or map that begins a line, but for its key, is broken."""
+        length = 2 * self.broken + piece.length
+        if piece.comma:
+            length += 1
+        return piece.noted or (piece.filled and length > self.width)
+
+    def put(self, told):
+        """Go on in the line of a flat row or map, else begin a line."""
+        if self.is_flat_here():
+            self.lines[-1].extend(told)
+        else:
+            self.lines.append([BLANK] * (2 * self.broken) + told)
+
+    def put_comma(self, piece):
+        if piece.comma and self.is_flat_here():
+            self.lines[-1].extend([COMMA, BLANK])
+        elif piece.comma:
+            self.lines[-1].append(COMMA)
+
+
+def byte_at(text, place):
+    return text[place] if place < len(text) else NO_BYTE
+
+
+def is_word_byte(byte):
+    is_letter = 97 <= byte <= 122 or 65 <= byte <= 90
+    # 45 to 57 are - . / and the digits, 43 is +, 95 is _.
+    return is_letter or 45 <= byte <= 57 or byte in (43, 95)
+
+
+def is_printed(byte):
+    return 32 <= byte <= 126
+
+
+def word_end(text, place):
+    while is_word_byte(byte_at(text, place)):
+        place += 1
+    return place
+
+
+def string_end(text, place):
+    """Give back the place behind the string whose first quote is at place."""
+    place += 1
+    while byte_at(text, place) != QUOTE:
+        if byte_at(text, place) == BACKSLASH:
+            place += 1
+            if byte_at(text, place) not in ESCAPED:
+                raise Wrong(place)
+        elif not is_printed(byte_at(text, place)):
+            raise Wrong(place)
+        place += 1
+    return place + 1
+
+
+def comment_end(text, place):
+    """Give back the place of the line's end, or the text's, that closes it."""
+    while place < len(text) and text[place] != LINE_END:
+        if not is_printed(text[place]):
+            raise Wrong(place)
+        place += 1
+    return place
+
+
+def without_last_blanks(told):
+    end = len(told)
+    while end > 0 and told[end - 1] == BLANK:
+        end -= 1
+    return told[:end]
+
+
+def key_told(key):
+    """Give back what stands ahead of an entry's value; a value has no key."""
+    return key + [COLON, BLANK] if key else []
+
+
+def lines_of(width, pieces):
+    setter = Setter(width)
+    for piece in pieces:
+        setter.tell(piece)
+    return setter.lines
+
+
+def check(text):
+    """Answer [0], or -100 less the place of the first byte that's wrong."""
+    try:
+        Reader(text).read()
+    except Wrong as wrong:
+        return [-100 - wrong.place]
+    return [0]
+
+
+def format_of(width, text):
+    """Answer how many bytes the text has when it's set in lines, then they."""
+    if width < LEAST_WIDTH or width > MOST_WIDTH:
+        return [-2]
+    try:
+        pieces = Reader(text).read()
+    except Wrong as wrong:
+        return [-100 - wrong.place]
+    told = []
+    for line in lines_of(width, pieces):
+        told.extend(line)
+        told.append(LINE_END)
+    return [len(told)] + told
