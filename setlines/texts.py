@@ -1,7 +1,8 @@
-"""Texts of rows and maps: read to the last byte, and set in lines of a width.
+"""Texts of rows and maps: read to the last byte, set in lines, told in short.
 
 A text is a list of bytes. Reader turns it into pieces, in the order of the
-text; Setter turns pieces into lines. Both go by loops, however deep it gets.
+text; Setter turns pieces into lines, told_short into as few bytes as can be.
+All go by loops, however deep it gets.
 """
 
 LINE_END = 10
@@ -17,7 +18,7 @@ MAP_END = 125
 CLOSERS = {91: 93, 123: 125}
 # What may stand behind a backslash: a quote, a backslash, n.
 ESCAPED = (34, 92, 110)
-# More than any byte is: read where the text has ended.
+# More than any byte is: stands where the text has ended.
 NO_BYTE = 256
 
 MOST_BYTES = 65536
@@ -57,16 +58,11 @@ class Piece:
         self.kind = kind
         self.key = key
         self.own = own
-        # How many bytes it is told flat by, with its key.
-        self.length = len(key_told(key)) + len(own)
-        # Another value or entry of the same row or map comes after it.
-        self.comma = False
-        # Of a row or map: it's not empty.
-        self.filled = False
-        # Of a row or map: a comment stands anywhere in it.
-        self.noted = False
-        # Of a comment: it stands behind a value or entry.
-        self.behind = False
+        self.length = len(key_told(key)) + len(own)  # How many bytes it is told flat by, with its key.
+        self.comma = False  # Another value or entry of the same row or map comes after it.
+        self.filled = False  # Of a row or map: it's not empty.
+        self.noted = False  # Of a row or map: a comment stands anywhere in it.
+        self.behind = False  # Of a comment: it stands behind a value or entry.
 
 
 class Level:
@@ -97,7 +93,7 @@ class Reader:
     """Reads a text once, from its first byte to its last."""
 
     def __init__(self, text):
-        self.text = text
+        self.text = text + [NO_BYTE]
         self.place = 0
         self.pieces = []
         self.levels = [Level(Piece(OPENING, [], []), NO_BYTE)]
@@ -105,24 +101,20 @@ class Reader:
     def read(self):
         """Give back the text's pieces, or raise Wrong."""
         line_ended = self.skip_space()
-        while self.place < len(self.text):
+        while self.text[self.place] != NO_BYTE:
             self.read_next(line_ended)
             line_ended = self.skip_space()
         # The text takes in its value only when that is closed.
-        if self.levels[0].state == READY:
-            raise Wrong(len(self.text))
-        if len(self.text) > MOST_BYTES:
-            raise Wrong(MOST_BYTES)
+        if self.levels[0].state == READY or self.place > MOST_BYTES:
+            raise Wrong(self.place)
         return self.pieces
 
     def skip_space(self):
         """Go to the next byte that's no blank; tell if a line ended before it."""
-        line_ended = False
-        while byte_at(self.text, self.place) in (BLANK, LINE_END):
-            if self.text[self.place] == LINE_END:
-                line_ended = True
+        begin = self.place
+        while self.text[self.place] in (BLANK, LINE_END):
             self.place += 1
-        return line_ended
+        return LINE_END in self.text[begin:self.place]
 
     def read_next(self, line_ended):
         byte = self.text[self.place]
@@ -172,7 +164,7 @@ class Reader:
         key = []
         if level.closer == MAP_END:
             key = self.read_key(level.seen)
-        byte = byte_at(self.text, self.place)
+        byte = self.text[self.place]
         if byte in CLOSERS:
             self.read_opening(key, byte)
         else:
@@ -188,7 +180,7 @@ class Reader:
             raise Wrong(begin)
         seen[tuple(key)] = True
         self.skip_space()
-        if byte_at(self.text, self.place) != COLON:
+        if self.text[self.place] != COLON:
             raise Wrong(self.place)
         self.place += 1
         self.skip_space()
@@ -207,7 +199,7 @@ class Reader:
     def read_plain(self):
         """Read the word or string that has to be here."""
         begin = self.place
-        if byte_at(self.text, begin) == QUOTE:
+        if self.text[begin] == QUOTE:
             self.place = string_end(self.text, begin)
         else:
             self.place = word_end(self.text, begin)
@@ -221,7 +213,7 @@ class Setter:
 
     def __init__(self, width):
         self.width = width
-        self.lines = []
+        self.told = []
         # The rows and maps that are not closed yet. The first of them are told
         # broken, as many as the number says; those within a flat one are flat.
         self.opened = []
@@ -232,7 +224,7 @@ class Setter:
 
     def tell(self, piece):
         if piece.behind:
-            self.lines[-1].extend([BLANK] + piece.own)
+            self.told.extend([BLANK] + piece.own)
         elif piece.kind == CLOSING:
             self.tell_closing(piece)
         elif piece.kind == OPENING:
@@ -253,32 +245,29 @@ class Setter:
             self.broken -= 1
             self.put(piece.own)
         else:
-            self.lines[-1].extend(piece.own)
+            self.told.extend(piece.own)
         self.put_comma(whole)
 
     def must_break(self, piece):
         """Tell if a row or map that begins a line, but for its key, is broken."""
-        length = 2 * self.broken + piece.length
-        if piece.comma:
-            length += 1
+        length = 2 * self.broken + piece.length + (1 if piece.comma else 0)
         return piece.noted or (piece.filled and length > self.width)
 
     def put(self, told):
         """Go on in the line of a flat row or map, else begin a line."""
-        if self.is_flat_here():
-            self.lines[-1].extend(told)
-        else:
-            self.lines.append([BLANK] * (2 * self.broken) + told)
+        if not self.is_flat_here():
+            self.end_line()
+            self.told.extend([BLANK] * (2 * self.broken))
+        self.told.extend(told)
 
     def put_comma(self, piece):
-        if piece.comma and self.is_flat_here():
-            self.lines[-1].extend([COMMA, BLANK])
-        elif piece.comma:
-            self.lines[-1].append(COMMA)
+        if piece.comma:
+            self.told.extend([COMMA, BLANK] if self.is_flat_here() else [COMMA])
 
-
-def byte_at(text, place):
-    return text[place] if place < len(text) else NO_BYTE
+    def end_line(self):
+        # Ahead of the first line there's none to end.
+        if self.told:
+            self.told.append(LINE_END)
 
 
 def is_word_byte(byte):
@@ -292,7 +281,7 @@ def is_printed(byte):
 
 
 def word_end(text, place):
-    while is_word_byte(byte_at(text, place)):
+    while is_word_byte(text[place]):
         place += 1
     return place
 
@@ -300,12 +289,12 @@ def word_end(text, place):
 def string_end(text, place):
     """Give back the place behind the string whose first quote is at place."""
     place += 1
-    while byte_at(text, place) != QUOTE:
-        if byte_at(text, place) == BACKSLASH:
+    while text[place] != QUOTE:
+        if text[place] == BACKSLASH:
             place += 1
-            if byte_at(text, place) not in ESCAPED:
+            if text[place] not in ESCAPED:
                 raise Wrong(place)
-        elif not is_printed(byte_at(text, place)):
+        elif not is_printed(text[place]):
             raise Wrong(place)
         place += 1
     return place + 1
@@ -313,7 +302,7 @@ def string_end(text, place):
 
 def comment_end(text, place):
     """Give back the place of the line's end, or the text's, that closes it."""
-    while place < len(text) and text[place] != LINE_END:
+    while text[place] not in (LINE_END, NO_BYTE):
         if not is_printed(text[place]):
             raise Wrong(place)
         place += 1
@@ -332,32 +321,73 @@ def key_told(key):
     return key + [COLON, BLANK] if key else []
 
 
-def lines_of(width, pieces):
+def told_in_lines(pieces, width):
     setter = Setter(width)
     for piece in pieces:
         setter.tell(piece)
-    return setter.lines
+    setter.end_line()
+    return setter.told
+
+
+def told_short(pieces, ordered):
+    """Give back what the pieces say; if ordered, each map by its keys' order."""
+    opened = []
+    # The members of the text, then those of each row or map in opened: the key
+    # of each, and the bytes of its value.
+    levels = [[]]
+    for piece in pieces:
+        if piece.kind == OPENING:
+            opened.append(piece)
+            levels.append([])
+        elif piece.kind == CLOSING:
+            whole = opened.pop()
+            members = levels.pop()
+            if ordered and piece.own == [MAP_END]:
+                members = sorted(members, key=lambda member: member[0])
+            levels[-1].append((whole.key, whole.own + joined(members) + piece.own))
+        elif piece.kind == PLAIN:
+            levels[-1].append((piece.key, piece.own))
+    return joined(levels[0])
+
+
+def joined(members):
+    told = []
+    for key, own in members:
+        if told:
+            told.append(COMMA)
+        if key:
+            told.extend(key + [COLON])
+        told.extend(own)
+    return told
+
+
+def answer(text, tell):
+    """Answer how many bytes tell makes of the text's pieces, then they."""
+    try:
+        pieces = Reader(text).read()
+    except Wrong as wrong:
+        return [-100 - wrong.place]
+    told = tell(pieces)
+    return [len(told)] + told
 
 
 def check(text):
     """Answer [0], or -100 less the place of the first byte that's wrong."""
-    try:
-        Reader(text).read()
-    except Wrong as wrong:
-        return [-100 - wrong.place]
-    return [0]
+    return answer(text, lambda pieces: [])
 
 
 def format_of(width, text):
     """Answer how many bytes the text has when it's set in lines, then they."""
     if width < LEAST_WIDTH or width > MOST_WIDTH:
         return [-2]
-    try:
-        pieces = Reader(text).read()
-    except Wrong as wrong:
-        return [-100 - wrong.place]
-    told = []
-    for line in lines_of(width, pieces):
-        told.extend(line)
-        told.append(LINE_END)
-    return [len(told)] + told
+    return answer(text, lambda pieces: told_in_lines(pieces, width))
+
+
+def short(text):
+    """Answer how many bytes the text has without all that it can do without, then they."""
+    return answer(text, lambda pieces: told_short(pieces, False))
+
+
+def core(text):
+    """Answer as short does, the entries of each map in the order of their keys."""
+    return answer(text, lambda pieces: told_short(pieces, True))

@@ -3,9 +3,23 @@
 import unittest
 
 from helper import bytes_of
-from setlines.texts import check, format_of
+from setlines.texts import check, core, format_of, short
 
-TEXTS = ("", "a", "[a b]", "{k:[a, #c\nb], l:{}} #d\n#e", "[" * 41, "[" * 40 + "]" * 40, "[" + "ab," * 50 + "]")
+TEXTS = ("", "a", "[a b]", "{k:[a, #c\nb], l:{}} #d\n#e", "[" * 41, "[" * 40 + "]" * 40, "[" + "ab," * 50 + "]",
+         '{"z": {b: [c, {y: 1, x: 2,},], "a": d}, #e\nw: v}', "{b: 1, a: 2, b: 3}")
+# All that can be asked of one text.
+CALLS = (check, short, core, lambda text: format_of(20, text), lambda text: format_of(200, text),
+         lambda text: format_of(19, text))
+
+
+class Watched(list):
+    """A list that refuses each change of itself."""
+
+    def refuse(self, *args, **kwargs):
+        raise AssertionError("what was handed in is changed")
+
+    append = clear = extend = insert = pop = remove = reverse = sort = refuse
+    __delitem__ = __iadd__ = __imul__ = __setitem__ = refuse
 
 
 class Widths(unittest.TestCase):
@@ -26,31 +40,38 @@ class Widths(unittest.TestCase):
 class Values(unittest.TestCase):
     def test_what_is_handed_in_is_not_changed(self):
         for text in TEXTS:
-            given = bytes_of(text)
-            check(given)
-            format_of(20, given)
-            format_of(19, given)
-            self.assertEqual(given, bytes_of(text))
+            for call in CALLS:
+                given = bytes_of(text)
+                call(given)
+                self.assertEqual(given, bytes_of(text))
+
+    def test_not_for_a_while_either(self):
+        for text in TEXTS:
+            for call in CALLS:
+                self.assertEqual(call(Watched(bytes_of(text))), call(bytes_of(text)))
 
     def test_a_second_call_answers_the_same(self):
         for text in TEXTS:
-            first = check(bytes_of(text)), format_of(20, bytes_of(text)), format_of(200, bytes_of(text))
-            check(bytes_of("[{a:b"))
-            format_of(30, bytes_of("{a:[#c\n]}"))
-            second = check(bytes_of(text)), format_of(20, bytes_of(text)), format_of(200, bytes_of(text))
-            self.assertEqual(first, second)
+            first = [call(bytes_of(text)) for call in CALLS]
+            for other in ("[{a:b", "{a:[#c\n]}", "{k: 1, z: 2, b: 3}"):
+                for call in CALLS:
+                    call(bytes_of(other))
+            self.assertEqual([call(bytes_of(text)) for call in CALLS], first)
 
     def test_an_answer_that_is_changed_changes_no_later_one(self):
-        given = bytes_of("{a: [b, c]}")
-        answer = format_of(20, given)
-        kept = list(answer)
-        answer.clear()
-        self.assertEqual(format_of(20, given), kept)
-        self.assertEqual(given, bytes_of("{a: [b, c]}"))
+        for text in ("{a: [b, c]}", "a", "[]", '"s"'):
+            for call in CALLS:
+                given = bytes_of(text)
+                answer = call(given)
+                kept = list(answer)
+                answer.reverse()
+                answer.append(0)
+                self.assertEqual(call(given), kept)
+                self.assertEqual(given, bytes_of(text))
 
     def test_answers_are_lists_of_whole_numbers(self):
         for text in TEXTS:
-            for answer in (check(bytes_of(text)), format_of(20, bytes_of(text)), format_of(19, bytes_of(text))):
+            for answer in [call(bytes_of(text)) for call in CALLS]:
                 self.assertIs(type(answer), list)
                 self.assertEqual({type(number) for number in answer}, {int})
                 self.assertTrue(answer[0] >= 0 or len(answer) == 1)

@@ -3,7 +3,17 @@
 import unittest
 
 from helper import bytes_of, place_of
-from setlines.texts import check, format_of
+from setlines.texts import check, core, format_of, short
+
+# Texts that can't be read, with the place where that's told: each kind of fault.
+WRONG = (
+    ("", 0), (" \n", 2), ("#c", 2), ("[a", 2), ("{a:b,", 5), ("{a", 2), ("{a:", 3), ('"a', 2), ('"a\\', 3),
+    (",", 0), ("[a,,b]", 3), ("{:b}", 1), ("{a:}", 3), ("[\x00]", 1), ("{[]:b}", 1), ("]", 0), ("[}", 1), ("{a:b]", 4),
+    ("[a b]", 3), ("{a:b c:d}", 5), ("{a b}", 3), ("[a:b]", 2),
+    ('["a\n"]', 3), ('"\x80"', 1), ('{"\\x":a}', 3), ("#\t\na", 1),
+    ("{a:1,a:2}", 5), ("{b:{c:1, d:2, c:3}}", 14), ('{"k":1,k:2, "k":3}', 12),
+    ("[" * 41 + "]" * 41, 40), ("{a:" * 40 + "[]" + "}" * 40, 120),
+    ("a b", 2), ("[] []", 3), ("a,", 1), ("{}}", 2), ("a #c\nb", 5), ("[a #c\n, b]", 6), ("{a: #c\nb}", 4))
 
 
 class TooSoon(unittest.TestCase):
@@ -14,8 +24,8 @@ class TooSoon(unittest.TestCase):
             self.assertEqual(place_of(text), len(text), text)
 
     def test_the_answer_of_an_empty_text(self):
-        self.assertEqual(check([]), [-100])
-        self.assertEqual(format_of(20, []), [-100])
+        for answer in (check([]), format_of(20, []), short([]), core([])):
+            self.assertEqual(answer, [-100])
 
 
 class Faults(unittest.TestCase):
@@ -38,10 +48,13 @@ class Faults(unittest.TestCase):
         self.assertEqual(place_of("{a:1,a:[,}"), 5)
         self.assertEqual(place_of('"\t\n'), 1)
 
-    def test_format_of_tells_the_same_place(self):
-        for text in ("", "[a b]", "{a:1,a:2}", '"\\x"', "[" * 41, "a b", "[a", "[a#c\n,]"):
+    def test_each_call_tells_the_place_alone(self):
+        for text, place in WRONG:
+            given = bytes_of(text)
+            for answer in (check(given), short(given), core(given)):
+                self.assertEqual(answer, [-100 - place], text)
             for width in (20, 77, 200):
-                self.assertEqual(format_of(width, bytes_of(text)), check(bytes_of(text)), text)
+                self.assertEqual(format_of(width, given), [-100 - place], text)
 
 
 class Depth(unittest.TestCase):
@@ -81,7 +94,8 @@ class Length(unittest.TestCase):
         self.assertEqual(place_of(" " * 70000), 65536)
         self.assertEqual(place_of(" " * 70000 + "]"), 65536)
         self.assertEqual(place_of("a b" + " " * 70000), 2)
-        self.assertEqual(format_of(20, bytes_of("a" * 65537)), [-65636])
+        for answer in (format_of(20, bytes_of("a" * 65537)), short([97] * 65537), core([97] * 65537)):
+            self.assertEqual(answer, [-65636])
 
 
 if __name__ == "__main__":

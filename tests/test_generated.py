@@ -1,4 +1,4 @@
-"""Texts made by the hundred: their lines are told anew from what was meant.
+"""Texts made by the hundred: what's told of them is told anew from what was meant.
 
 A member is [key, value, note]: key and note are texts or None; a value is a
 text or (bracket, members). A note in a line of its own is a text by itself.
@@ -8,7 +8,7 @@ import random
 import re
 import unittest
 
-from helper import lines_in, place_of
+from helper import core_of, lines_in, place_of, short_of
 
 WIDTHS = (20, 23, 31, 40, 57, 80, 200)
 CLOSING = {"[": "]", "{": "}"}
@@ -133,6 +133,34 @@ def told_member(width, member, comma, indent):
     return [" " * indent + key + value[0]] + inner + [" " * indent + CLOSING[value[0]] + comma]
 
 
+def in_short(value, ordered):
+    """A value in short, or its core, as the document tells it."""
+    if isinstance(value, str):
+        return value
+    bracket, members = value
+    told = [member for member in members if isinstance(member, list)]
+    if ordered and bracket == "{":
+        told.sort(key=lambda member: member[0].encode("ascii"))
+    told = [(key + ":" if key is not None else "") + in_short(inner, ordered) for key, inner, note in told]
+    return bracket + ",".join(told) + CLOSING[bracket]
+
+
+def value_in(members):
+    return [member for member in members if isinstance(member, list)][0][1]
+
+
+def mixed(value, chance):
+    """The same value, the entries of its maps in any order and no note anywhere."""
+    if isinstance(value, str):
+        return value
+    bracket, members = value
+    told = [[key, mixed(inner, chance), None] for key, inner, note in
+            [member for member in members if isinstance(member, list)]]
+    if bracket == "{":
+        chance.shuffle(told)
+    return bracket, told
+
+
 def made_texts(notes):
     for seed in range(400):
         maker = Maker(seed, notes)
@@ -163,6 +191,38 @@ class Generated(unittest.TestCase):
                     for line in lines_in(width, text):
                         told = BEFORE_NOTE.match(line).group().rstrip(" ")
                         self.assertTrue(len(told) <= width or ONE_THING.fullmatch(told), line)
+
+    def test_short(self):
+        for notes in (False, True):
+            for members, text in made_texts(notes):
+                told = short_of(text)
+                self.assertEqual(told, in_short(value_in(members), False), text)
+                self.assertLessEqual(len(told), len(text))
+                self.assertEqual(short_of(told), told)
+                self.assertEqual(core_of(told), core_of(text))
+
+    def test_core(self):
+        for notes in (False, True):
+            for members, text in made_texts(notes):
+                told = core_of(text)
+                self.assertEqual(told, in_short(value_in(members), True), text)
+                self.assertEqual(len(told), len(short_of(text)))
+                self.assertEqual(core_of(told), told)
+                self.assertEqual(short_of(told), told)
+
+    def test_the_order_of_entries_changes_no_core(self):
+        for seed, (members, text) in enumerate(made_texts(True)):
+            value = mixed(value_in(members), random.Random(seed))
+            other = Maker(seed, False).write([[None, value, None]], False)
+            self.assertEqual(short_of(other), in_short(value, False))
+            self.assertEqual(core_of(other), core_of(text))
+
+    def test_lines_say_the_same(self):
+        for members, text in made_texts(True):
+            for width in WIDTHS:
+                told = "\n".join(lines_in(width, text)) + "\n"
+                self.assertEqual(short_of(told), short_of(text))
+                self.assertEqual(core_of(told), core_of(text))
 
     def test_what_is_cut_off_ends_too_soon_or_can_be_read(self):
         for members, text in list(made_texts(True))[:60]:
