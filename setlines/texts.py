@@ -14,12 +14,9 @@ COLON = 58
 BACKSLASH = 92
 ROW_END = 93
 MAP_END = 125
-# Each opening bracket with the one that closes it.
-CLOSERS = {91: 93, 123: 125}
-# What may stand behind a backslash: a quote, a backslash, n.
-ESCAPED = (34, 92, 110)
-# More than any byte is: stands where the text has ended.
-NO_BYTE = 256
+CLOSERS = {91: 93, 123: 125}  # Each opening bracket with the one that closes it.
+ESCAPED = (34, 92, 110)  # What may stand behind a backslash: a quote, a backslash, n.
+NO_BYTE = 256  # More than any byte is: stands where the text has ended.
 
 MOST_BYTES = 65536
 MOST_DEEP = 40
@@ -129,8 +126,15 @@ class Reader:
 
     def read_comment(self, line_ended):
         level = self.levels[-1]
-        end = comment_end(self.text, self.place)
-        piece = Piece(COMMENT, [], without_last_blanks(self.text[self.place:end]))
+        begin = self.place
+        while is_printed(self.text[self.place]):
+            self.place += 1
+        if self.text[self.place] not in (LINE_END, NO_BYTE):
+            raise Wrong(self.place)
+        end = self.place
+        while self.text[end - 1] == BLANK:
+            end -= 1
+        piece = Piece(COMMENT, [], self.text[begin:end])
         # A line has always ended behind a comment, so what is last here is a
         # value or entry, or its comma.
         piece.behind = level.last is not None and not line_ended
@@ -139,7 +143,6 @@ class Reader:
         if level.state == FILLED:
             level.state = CLOSED
         self.pieces.append(piece)
-        self.place = end
 
     def read_comma(self):
         level = self.levels[-1]
@@ -161,9 +164,7 @@ class Reader:
         level = self.levels[-1]
         if level.state != READY:
             raise Wrong(self.place)
-        key = []
-        if level.closer == MAP_END:
-            key = self.read_key(level.seen)
+        key = self.read_key(level.seen) if level.closer == MAP_END else []
         byte = self.text[self.place]
         if byte in CLOSERS:
             self.read_opening(key, byte)
@@ -190,8 +191,7 @@ class Reader:
         if len(self.levels) > MOST_DEEP:
             raise Wrong(self.place)
         piece = Piece(OPENING, key, [byte])
-        # The bracket that closes it belongs to its length too.
-        piece.length += 1
+        piece.length += 1  # For the bracket that closes it.
         self.levels.append(Level(piece, CLOSERS[byte]))
         self.pieces.append(piece)
         self.place += 1
@@ -199,10 +199,8 @@ class Reader:
     def read_plain(self):
         """Read the word or string that has to be here."""
         begin = self.place
-        if self.text[begin] == QUOTE:
-            self.place = string_end(self.text, begin)
-        else:
-            self.place = word_end(self.text, begin)
+        is_string = self.text[begin] == QUOTE
+        self.place = string_end(self.text, begin) if is_string else word_end(self.text, begin)
         if self.place == begin:
             raise Wrong(begin)
         return self.text[begin:self.place]
@@ -213,11 +211,18 @@ class Setter:
 
     def __init__(self, width):
         self.width = width
+        # Each line with the end of the one before it, the first one too.
         self.told = []
         # The rows and maps that are not closed yet. The first of them are told
         # broken, as many as the number says; those within a flat one are flat.
         self.opened = []
         self.broken = 0
+
+    def set_lines(self, pieces):
+        """Give back the lines of a text's pieces."""
+        for piece in pieces:
+            self.tell(piece)
+        return self.told[1:] + [LINE_END]
 
     def is_flat_here(self):
         return len(self.opened) > self.broken
@@ -227,15 +232,18 @@ class Setter:
             self.told.extend([BLANK] + piece.own)
         elif piece.kind == CLOSING:
             self.tell_closing(piece)
-        elif piece.kind == OPENING:
-            self.tell_opening(piece)
         else:
             self.put(key_told(piece.key) + piece.own)
-            self.put_comma(piece)
+            if piece.kind == OPENING:
+                self.go_into(piece)
+            else:
+                self.put_comma(piece)
 
-    def tell_opening(self, piece):
-        self.put(key_told(piece.key) + piece.own)
-        if not self.is_flat_here() and self.must_break(piece):
+    def go_into(self, piece):
+        """Settle if a row or map, whose bracket has been told, is broken."""
+        length = 2 * self.broken + piece.length + (1 if piece.comma else 0)
+        must_break = piece.noted or (piece.filled and length > self.width)
+        if must_break and not self.is_flat_here():
             self.broken += 1
         self.opened.append(piece)
 
@@ -248,26 +256,15 @@ class Setter:
             self.told.extend(piece.own)
         self.put_comma(whole)
 
-    def must_break(self, piece):
-        """Tell if a row or map that begins a line, but for its key, is broken."""
-        length = 2 * self.broken + piece.length + (1 if piece.comma else 0)
-        return piece.noted or (piece.filled and length > self.width)
-
     def put(self, told):
         """Go on in the line of a flat row or map, else begin a line."""
         if not self.is_flat_here():
-            self.end_line()
-            self.told.extend([BLANK] * (2 * self.broken))
+            self.told.extend([LINE_END] + [BLANK] * (2 * self.broken))
         self.told.extend(told)
 
     def put_comma(self, piece):
         if piece.comma:
             self.told.extend([COMMA, BLANK] if self.is_flat_here() else [COMMA])
-
-    def end_line(self):
-        # Ahead of the first line there's none to end.
-        if self.told:
-            self.told.append(LINE_END)
 
 
 def is_word_byte(byte):
@@ -300,65 +297,36 @@ def string_end(text, place):
     return place + 1
 
 
-def comment_end(text, place):
-    """Give back the place of the line's end, or the text's, that closes it."""
-    while text[place] not in (LINE_END, NO_BYTE):
-        if not is_printed(text[place]):
-            raise Wrong(place)
-        place += 1
-    return place
-
-
-def without_last_blanks(told):
-    end = len(told)
-    while end > 0 and told[end - 1] == BLANK:
-        end -= 1
-    return told[:end]
-
-
 def key_told(key):
     """Give back what stands ahead of an entry's value; a value has no key."""
     return key + [COLON, BLANK] if key else []
 
 
-def told_in_lines(pieces, width):
-    setter = Setter(width)
-    for piece in pieces:
-        setter.tell(piece)
-    setter.end_line()
-    return setter.told
-
-
 def told_short(pieces, ordered):
     """Give back what the pieces say; if ordered, each map by its keys' order."""
-    opened = []
-    # The members of the text, then those of each row or map in opened: the key
-    # of each, and the bytes of its value.
+    # The members of the text, then those of each row or map that isn't closed
+    # yet: the key of each, and the bytes it's told by so far.
     levels = [[]]
     for piece in pieces:
-        if piece.kind == OPENING:
-            opened.append(piece)
-            levels.append([])
-        elif piece.kind == CLOSING:
-            whole = opened.pop()
+        if piece.kind == CLOSING:
             members = levels.pop()
             if ordered and piece.own == [MAP_END]:
                 members = sorted(members, key=lambda member: member[0])
-            levels[-1].append((whole.key, whole.own + joined(members) + piece.own))
-        elif piece.kind == PLAIN:
-            levels[-1].append((piece.key, piece.own))
+            begun = levels[-1].pop()
+            levels[-1].append((begun[0], begun[1] + joined(members) + piece.own))
+        elif piece.kind != COMMENT:
+            ahead = piece.key + [COLON] if piece.key else []
+            levels[-1].append((piece.key, ahead + piece.own))
+        if piece.kind == OPENING:
+            levels.append([])
     return joined(levels[0])
 
 
 def joined(members):
     told = []
     for key, own in members:
-        if told:
-            told.append(COMMA)
-        if key:
-            told.extend(key + [COLON])
-        told.extend(own)
-    return told
+        told.extend([COMMA] + own)
+    return told[1:]
 
 
 def answer(text, tell):
@@ -380,7 +348,7 @@ def format_of(width, text):
     """Answer how many bytes the text has when it's set in lines, then they."""
     if width < LEAST_WIDTH or width > MOST_WIDTH:
         return [-2]
-    return answer(text, lambda pieces: told_in_lines(pieces, width))
+    return answer(text, lambda pieces: Setter(width).set_lines(pieces))
 
 
 def short(text):
@@ -391,3 +359,25 @@ def short(text):
 def core(text):
     """Answer as short does, the entries of each map in the order of their keys."""
     return answer(text, lambda pieces: told_short(pieces, True))
+
+
+def same(a, b):
+    """Answer [1] if both texts say the same, whatever the order of their entries, else [0]."""
+    first = core(a)
+    second = core(b)
+    if first[0] < 0:
+        return first
+    if second[0] < 0:
+        # What core tells by -100 less the place is -1000000 less it here.
+        return [second[0] - 999900]
+    return [1 if first == second else 0]
+
+
+def measure(width, text):
+    """Answer how many lines format_of sets the text in, then how many bytes the longest has."""
+    told = format_of(width, text)
+    if told[0] < 0:
+        return told
+    # How many bytes it tells stands ahead of them, where the end of a line before the first would be.
+    ends = [0] + [place for place in range(1, len(told)) if told[place] == LINE_END]
+    return [len(ends) - 1, max([end - begin - 1 for begin, end in zip(ends, ends[1:])])]

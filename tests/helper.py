@@ -1,6 +1,16 @@
 """What the tests share: texts are written as Python's str here."""
 
-from setlines.texts import check, core, format_of, short
+from setlines.texts import check, core, format_of, measure, same, short
+
+# Texts that can't be read, with the place where that's told: each kind of fault.
+WRONG = (
+    ("", 0), (" \n", 2), ("#c", 2), ("[a", 2), ("{a:b,", 5), ("{a", 2), ("{a:", 3), ('"a', 2), ('"a\\', 3),
+    (",", 0), ("[a,,b]", 3), ("{:b}", 1), ("{a:}", 3), ("[\x00]", 1), ("{[]:b}", 1), ("]", 0), ("[}", 1), ("{a:b]", 4),
+    ("[a b]", 3), ("{a:b c:d}", 5), ("{a b}", 3), ("[a:b]", 2),
+    ('["a\n"]', 3), ('"\x80"', 1), ('{"\\x":a}', 3), ("#\t\na", 1),
+    ("{a:1,a:2}", 5), ("{b:{c:1, d:2, c:3}}", 14), ('{"k":1,k:2, "k":3}', 12),
+    ("[" * 41 + "]" * 41, 40), ("{a:" * 40 + "[]" + "}" * 40, 120),
+    ("a b", 2), ("[] []", 3), ("a,", 1), ("{}}", 2), ("a #c\nb", 5), ("[a #c\n, b]", 6), ("{a: #c\nb}", 4))
 
 
 def bytes_of(text):
@@ -36,3 +46,11 @@ def short_of(text):
 
 def core_of(text):
     return told_in(core(bytes_of(text)))
+
+
+def measured(width, text):
+    return measure(width, bytes_of(text))
+
+
+def same_of(first, second):
+    return same(bytes_of(first), bytes_of(second))

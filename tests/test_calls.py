@@ -3,13 +3,7 @@
 import unittest
 
 from helper import bytes_of
-from setlines.texts import check, core, format_of, short
-
-TEXTS = ("", "a", "[a b]", "{k:[a, #c\nb], l:{}} #d\n#e", "[" * 41, "[" * 40 + "]" * 40, "[" + "ab," * 50 + "]",
-         '{"z": {b: [c, {y: 1, x: 2,},], "a": d}, #e\nw: v}', "{b: 1, a: 2, b: 3}")
-# All that can be asked of one text.
-CALLS = (check, short, core, lambda text: format_of(20, text), lambda text: format_of(200, text),
-         lambda text: format_of(19, text))
+from setlines.texts import check, core, format_of, measure, same, short
 
 
 class Watched(list):
@@ -22,19 +16,33 @@ class Watched(list):
     __delitem__ = __iadd__ = __imul__ = __setitem__ = refuse
 
 
+TEXTS = ("", "a", "[a b]", "{k:[a, #c\nb], l:{}} #d\n#e", "[" * 41, "[" * 40 + "]" * 40, "[" + "ab," * 50 + "]",
+         '{"z": {b: [c, {y: 1, x: 2,},], "a": d}, #e\nw: v}', "{b: 1, a: 2, b: 3}")
+# What other texts are held against.
+OTHER = Watched(bytes_of("{l: {}, k: [a, b]}"))
+# All that can be asked of one text.
+CALLS = (check, short, core, lambda text: format_of(20, text), lambda text: format_of(200, text),
+         lambda text: format_of(19, text), lambda text: measure(20, text), lambda text: measure(200, text),
+         lambda text: measure(201, text), lambda text: same(text, text), lambda text: same(text, OTHER),
+         lambda text: same(OTHER, text))
+
+
 class Widths(unittest.TestCase):
     def test_from_20_to_200(self):
         for width in (20, 21, 199, 200):
             self.assertEqual(format_of(width, bytes_of("a")), [2, 97, 10])
+            self.assertEqual(measure(width, bytes_of("a")), [1, 1])
 
     def test_others(self):
         for width in (19, 201, 0, 1, -1, -20, -200, 2147483647, -2147483648):
             self.assertEqual(format_of(width, bytes_of("a")), [-2])
+            self.assertEqual(measure(width, bytes_of("a")), [-2])
 
     def test_told_before_any_fault_of_the_text(self):
-        for width in (19, 201, -20, -2147483648):
+        for width in (19, 201, 0, -1, -20, -2147483648, 2147483647):
             for text in TEXTS:
                 self.assertEqual(format_of(width, bytes_of(text)), [-2])
+                self.assertEqual(measure(width, bytes_of(text)), [-2])
 
 
 class Values(unittest.TestCase):

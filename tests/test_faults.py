@@ -2,18 +2,8 @@
 
 import unittest
 
-from helper import bytes_of, place_of
-from setlines.texts import check, core, format_of, short
-
-# Texts that can't be read, with the place where that's told: each kind of fault.
-WRONG = (
-    ("", 0), (" \n", 2), ("#c", 2), ("[a", 2), ("{a:b,", 5), ("{a", 2), ("{a:", 3), ('"a', 2), ('"a\\', 3),
-    (",", 0), ("[a,,b]", 3), ("{:b}", 1), ("{a:}", 3), ("[\x00]", 1), ("{[]:b}", 1), ("]", 0), ("[}", 1), ("{a:b]", 4),
-    ("[a b]", 3), ("{a:b c:d}", 5), ("{a b}", 3), ("[a:b]", 2),
-    ('["a\n"]', 3), ('"\x80"', 1), ('{"\\x":a}', 3), ("#\t\na", 1),
-    ("{a:1,a:2}", 5), ("{b:{c:1, d:2, c:3}}", 14), ('{"k":1,k:2, "k":3}', 12),
-    ("[" * 41 + "]" * 41, 40), ("{a:" * 40 + "[]" + "}" * 40, 120),
-    ("a b", 2), ("[] []", 3), ("a,", 1), ("{}}", 2), ("a #c\nb", 5), ("[a #c\n, b]", 6), ("{a: #c\nb}", 4))
+from helper import WRONG, bytes_of, place_of
+from setlines.texts import check, core, format_of, measure, same, short
 
 
 class TooSoon(unittest.TestCase):
@@ -24,8 +14,9 @@ class TooSoon(unittest.TestCase):
             self.assertEqual(place_of(text), len(text), text)
 
     def test_the_answer_of_an_empty_text(self):
-        for answer in (check([]), format_of(20, []), short([]), core([])):
+        for answer in (check([]), format_of(20, []), short([]), core([]), measure(20, []), same([], [97])):
             self.assertEqual(answer, [-100])
+        self.assertEqual(same([97], []), [-1000000])
 
 
 class Faults(unittest.TestCase):
@@ -51,10 +42,12 @@ class Faults(unittest.TestCase):
     def test_each_call_tells_the_place_alone(self):
         for text, place in WRONG:
             given = bytes_of(text)
-            for answer in (check(given), short(given), core(given)):
+            for answer in (check(given), short(given), core(given), same(given, [97])):
                 self.assertEqual(answer, [-100 - place], text)
             for width in (20, 77, 200):
                 self.assertEqual(format_of(width, given), [-100 - place], text)
+                self.assertEqual(measure(width, given), [-100 - place], text)
+            self.assertEqual(same([97], given), [-1000000 - place], text)
 
 
 class Depth(unittest.TestCase):
@@ -94,8 +87,10 @@ class Length(unittest.TestCase):
         self.assertEqual(place_of(" " * 70000), 65536)
         self.assertEqual(place_of(" " * 70000 + "]"), 65536)
         self.assertEqual(place_of("a b" + " " * 70000), 2)
-        for answer in (format_of(20, bytes_of("a" * 65537)), short([97] * 65537), core([97] * 65537)):
+        given = [97] * 65537
+        for answer in (format_of(20, given), short(given), core(given), measure(20, given), same(given, [])):
             self.assertEqual(answer, [-65636])
+        self.assertEqual(same([97], given), [-1065536])
 
 
 if __name__ == "__main__":

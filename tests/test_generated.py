@@ -8,7 +8,7 @@ import random
 import re
 import unittest
 
-from helper import core_of, lines_in, place_of, short_of
+from helper import core_of, lines_in, measured, place_of, same_of, short_of
 
 WIDTHS = (20, 23, 31, 40, 57, 80, 200)
 CLOSING = {"[": "]", "{": "}"}
@@ -217,12 +217,32 @@ class Generated(unittest.TestCase):
             self.assertEqual(short_of(other), in_short(value, False))
             self.assertEqual(core_of(other), core_of(text))
 
+    def test_the_order_of_entries_makes_no_text_another(self):
+        last = None
+        for seed, (members, text) in enumerate(made_texts(True)):
+            value = mixed(value_in(members), random.Random(seed))
+            other = Maker(seed, False).write([[None, value, None]], False)
+            self.assertEqual(same_of(text, other), [1])
+            self.assertEqual(same_of(other, text), [1])
+            if last is not None:
+                is_same = in_short(value, True) == in_short(last, True)
+                self.assertEqual(same_of(text, in_short(last, False)), [1 if is_same else 0])
+            last = value
+
+    def test_measure(self):
+        for notes in (False, True):
+            for members, text in made_texts(notes):
+                for width in WIDTHS:
+                    lines = told_lines(width, members, 0)
+                    self.assertEqual(measured(width, text), [len(lines), max(map(len, lines))], text)
+
     def test_lines_say_the_same(self):
         for members, text in made_texts(True):
             for width in WIDTHS:
                 told = "\n".join(lines_in(width, text)) + "\n"
                 self.assertEqual(short_of(told), short_of(text))
                 self.assertEqual(core_of(told), core_of(text))
+                self.assertEqual(same_of(told, text), [1])
 
     def test_what_is_cut_off_ends_too_soon_or_can_be_read(self):
         for members, text in list(made_texts(True))[:60]:

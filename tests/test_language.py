@@ -64,12 +64,11 @@ class Language(unittest.TestCase):
                 if isinstance(node, ast.Constant):
                     self.assertNotIsInstance(node.value, (float, bytes, complex))
 
-    def test_nothing_is_imported_but_its_own(self):
+    def test_nothing_is_imported(self):
+        # The rules would allow the package's own modules; the document says "imports nothing".
         for path in FILES:
             for node in nodes_of(path):
-                if isinstance(node, ast.ImportFrom):
-                    self.assertEqual(node.level, 0)
-                    self.assertTrue(node.module.startswith("setlines."), node.module)
+                self.assertNotIsInstance(node, (ast.Import, ast.ImportFrom))
 
     def test_names(self):
         for path in FILES:
