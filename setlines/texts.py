@@ -329,6 +329,14 @@ def joined(members):
     return told[1:]
 
 
+def told_notes(pieces):
+    told = []
+    for piece in pieces:
+        if piece.kind == COMMENT:
+            told.extend(piece.own + [LINE_END])
+    return told
+
+
 def answer(text, tell):
     """Answer how many bytes tell makes of the text's pieces, then they."""
     try:
@@ -381,3 +389,8 @@ def measure(width, text):
     # How many bytes it tells stands ahead of them, where the end of a line before the first would be.
     ends = [0] + [place for place in range(1, len(told)) if told[place] == LINE_END]
     return [len(ends) - 1, max([end - begin - 1 for begin, end in zip(ends, ends[1:])])]
+
+
+def notes(text):
+    """Answer how many bytes all comments have, each with a line's end behind it, then they."""
+    return answer(text, told_notes)

@@ -1,6 +1,6 @@
 """What the tests share: texts are written as Python's str here."""
 
-from setlines.texts import check, core, format_of, measure, same, short
+from setlines.texts import check, core, format_of, measure, notes, same, short
 
 # Texts that can't be read, with the place where that's told: each kind of fault.
 WRONG = (
@@ -10,7 +10,8 @@ WRONG = (
     ('["a\n"]', 3), ('"\x80"', 1), ('{"\\x":a}', 3), ("#\t\na", 1),
     ("{a:1,a:2}", 5), ("{b:{c:1, d:2, c:3}}", 14), ('{"k":1,k:2, "k":3}', 12),
     ("[" * 41 + "]" * 41, 40), ("{a:" * 40 + "[]" + "}" * 40, 120),
-    ("a b", 2), ("[] []", 3), ("a,", 1), ("{}}", 2), ("a #c\nb", 5), ("[a #c\n, b]", 6), ("{a: #c\nb}", 4))
+    ("a b", 2), ("[] []", 3), ("a,", 1), ("{}}", 2), ("a #c\nb", 5), ("[a #c\n, b]", 6), ("{a: #c\nb}", 4),
+    ("{a #c\n: b}", 3), ("{a:b #c\n, d:e}", 8), ("a #c\x1f", 4), ("[#c\x7f\n]", 3), ("{a:b, #\xff\n}", 7))
 
 
 def bytes_of(text):
@@ -50,6 +51,13 @@ def core_of(text):
 
 def measured(width, text):
     return measure(width, bytes_of(text))
+
+
+def notes_in(text):
+    """The comments that notes tells, without the line's ends behind them."""
+    told = told_in(notes(bytes_of(text)))
+    assert told == "" or told.endswith("\n"), told
+    return told.split("\n")[:-1]
 
 
 def same_of(first, second):

@@ -35,6 +35,14 @@ class Order(unittest.TestCase):
             self.assertEqual(core_of(map_of(keys)), map_of(("a", "aa", "aaa", "ab", "b")))
         self.assertEqual(core_of("{10:x,1:y,2:z}"), "{1:y,10:x,2:z}")
 
+    def test_one_that_another_begins_with_whatever_their_values(self):
+        # Some bytes of words are before the colon that's behind a key, some after it.
+        for byte in "+-./09AZ_az":
+            for first, second in itertools.product(("b", '"b"', "[]", "{}", "[b]", "{b:b}"), repeat=2):
+                told = "{a:" + first + ",a" + byte + ":" + second + "}"
+                self.assertEqual(core_of("{a" + byte + ":" + second + ",a:" + first + "}"), told)
+                self.assertEqual(core_of(told), told)
+
     def test_byte_by_byte_not_by_what_they_mean(self):
         self.assertEqual(core_of("{a:1,B:2,b:3,A:4}"), "{A:4,B:2,a:1,b:3}")
         self.assertEqual(core_of("{9:a,10:b,-1:c,+2:d}"), "{+2:d,-1:c,10:b,9:a}")

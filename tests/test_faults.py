@@ -3,7 +3,7 @@
 import unittest
 
 from helper import WRONG, bytes_of, place_of
-from setlines.texts import check, core, format_of, measure, same, short
+from setlines.texts import check, core, format_of, measure, notes, same, short
 
 
 class TooSoon(unittest.TestCase):
@@ -14,7 +14,7 @@ class TooSoon(unittest.TestCase):
             self.assertEqual(place_of(text), len(text), text)
 
     def test_the_answer_of_an_empty_text(self):
-        for answer in (check([]), format_of(20, []), short([]), core([]), measure(20, []), same([], [97])):
+        for answer in (check([]), format_of(20, []), short([]), core([]), same([], [97]), measure(20, []), notes([])):
             self.assertEqual(answer, [-100])
         self.assertEqual(same([97], []), [-1000000])
 
@@ -42,7 +42,7 @@ class Faults(unittest.TestCase):
     def test_each_call_tells_the_place_alone(self):
         for text, place in WRONG:
             given = bytes_of(text)
-            for answer in (check(given), short(given), core(given), same(given, [97])):
+            for answer in (check(given), short(given), core(given), same(given, [97]), notes(given)):
                 self.assertEqual(answer, [-100 - place], text)
             for width in (20, 77, 200):
                 self.assertEqual(format_of(width, given), [-100 - place], text)
@@ -88,7 +88,8 @@ class Length(unittest.TestCase):
         self.assertEqual(place_of(" " * 70000 + "]"), 65536)
         self.assertEqual(place_of("a b" + " " * 70000), 2)
         given = [97] * 65537
-        for answer in (format_of(20, given), short(given), core(given), measure(20, given), same(given, [])):
+        for answer in (format_of(20, given), short(given), core(given), same(given, []), measure(20, given),
+                       notes(given)):
             self.assertEqual(answer, [-65636])
         self.assertEqual(same([97], given), [-1065536])
 

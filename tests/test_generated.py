@@ -8,7 +8,7 @@ import random
 import re
 import unittest
 
-from helper import core_of, lines_in, measured, place_of, same_of, short_of
+from helper import core_of, lines_in, measured, notes_in, place_of, same_of, short_of
 
 WIDTHS = (20, 23, 31, 40, 57, 80, 200)
 CLOSING = {"[": "]", "{": "}"}
@@ -145,6 +145,20 @@ def in_short(value, ordered):
     return bracket + ",".join(told) + CLOSING[bracket]
 
 
+def all_notes(members):
+    """The notes of members, in their order."""
+    told = []
+    for member in members:
+        if isinstance(member, str):
+            told.append(member)
+            continue
+        if not isinstance(member[1], str):
+            told += all_notes(member[1][1])
+        if member[2] is not None:
+            told.append(member[2])
+    return told
+
+
 def value_in(members):
     return [member for member in members if isinstance(member, list)][0][1]
 
@@ -236,6 +250,17 @@ class Generated(unittest.TestCase):
                     lines = told_lines(width, members, 0)
                     self.assertEqual(measured(width, text), [len(lines), max(map(len, lines))], text)
 
+    def test_notes(self):
+        count = 0
+        for members, text in made_texts(True):
+            told = all_notes(members)
+            count += len(told)
+            self.assertEqual(notes_in(text), told, text)
+            self.assertEqual(notes_in(short_of(text)), [])
+        self.assertGreater(count, 1000)
+        for members, text in made_texts(False):
+            self.assertEqual(notes_in(text), [], text)
+
     def test_lines_say_the_same(self):
         for members, text in made_texts(True):
             for width in WIDTHS:
@@ -243,6 +268,7 @@ class Generated(unittest.TestCase):
                 self.assertEqual(short_of(told), short_of(text))
                 self.assertEqual(core_of(told), core_of(text))
                 self.assertEqual(same_of(told, text), [1])
+                self.assertEqual(notes_in(told), all_notes(members))
 
     def test_what_is_cut_off_ends_too_soon_or_can_be_read(self):
         for members, text in list(made_texts(True))[:60]:
